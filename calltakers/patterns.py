@@ -188,7 +188,7 @@ class Not(Pattern):
     """Accepts what its pattern does not accept."""
 
     def __init__(self, pattern):
-        if not isinstance(pattern, Pattern):
+        if not is_pattern(pattern):
             raise BadPattern("Not takes a pattern of values")
         self.pattern = pattern
 
@@ -267,6 +267,16 @@ class AnyCall:
         return isinstance(other, AnyCall)
 
 
+def is_pattern(thing):
+    """Whether a thing is a pattern of values; a bare Pattern is none."""
+    return isinstance(thing, Pattern) and type(thing) is not Pattern
+
+
+def is_call_pattern(thing):
+    """Whether a thing is a pattern of calls."""
+    return isinstance(thing, (Calls, AnyCall))
+
+
 def _is_bound(thing):
     """Whether a thing is a bound of integers."""
     return thing is None or is_int(thing)
@@ -274,7 +284,7 @@ def _is_bound(thing):
 
 def _checked_patterns(things):
     """The things as a tuple; BadPattern if one of them is no pattern of values."""
-    if not all([isinstance(thing, Pattern) for thing in things]):
+    if not all([is_pattern(thing) for thing in things]):
         raise BadPattern("patterns of values are made of patterns of values")
     return tuple(things)
 

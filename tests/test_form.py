@@ -3,22 +3,48 @@
 import ast
 import builtins
 import doctest
+import importlib
 import inspect
 import pathlib
 import re
 import unittest
 
-from calltakers import errors, patterns, values
+from calltakers import errors, patterns, plans
 
 TOP = pathlib.Path(__file__).resolve().parent.parent
 PACKAGE = TOP / "calltakers"
 ORDER = ["errors", "values", "patterns", "cases", "plans", "assigning", "firstfit", "rules", "states", "watching",
          "certainty", "alike", "hands", "standins", "strict", "places", "texts", "console"]
-FUNCTIONS = {"is_value": "(thing)", "is_call": "(thing)", "kind_of": "(value)", "same": "(one, other)",
-             "compare": "(one, other)", "call": "(path, *arguments, **named)"}
-CLASSES = {"Anything": "()", "Exactly": "(value)", "Kind": "(kind)", "Between": "(low, high)", "Begins": "(text)",
-           "Items": "(*patterns)", "Both": "(*patterns)", "Either": "(*patterns)", "Not": "(pattern)",
-           "Calls": "(path, *patterns, **named)", "AnyCall": "()"}
+FUNCTIONS = {
+    "values": {"is_value": "(thing)", "is_call": "(thing)", "kind_of": "(value)", "same": "(one, other)",
+               "compare": "(one, other)", "call": "(path, *arguments, **named)"},
+    "cases": {"example": "(one, *, outside=())", "common": "(one, other)", "classes": "(patterns)"},
+    "plans": {"is_assignment": "(plan, record, thing)"},
+    "assigning": {"assigned": "(plan, record)", "is_crowded": "(plan, record, thing)",
+                  "is_needy": "(plan, record, thing)", "may_take": "(plan, record, index)"},
+    "firstfit": {"first_fit": "(plan, record)", "wrong_pair": "(plan)", "trap": "(plan)", "righted": "(plan)"},
+    "rules": {"conflict": "(plan)", "narrowest": "(plan, record)", "spared": "(plan)"},
+    "states": {"start": "(plan)", "steps": "(plan, state, call)", "ends": "(plan, state)",
+               "reached": "(plan, record)", "ordered": "(plan, record)", "is_refusal": "(plan, record, thing)"}}
+OF_VALUES = {"told": property, "accepts": "(self, value)"}
+OF_CALLS = {"told": property, "accepts": "(self, call)", "__eq__": "(self, other)"}
+# For each class how it is made, and what stands in its own body.
+CLASSES = {
+    "patterns": {"Pattern": ("()", OF_VALUES | {"of": "(told)", "__and__": "(self, other)", "__or__": "(self, other)",
+                                                "__invert__": "(self)", "__eq__": "(self, other)"}),
+                 "Anything": ("()", OF_VALUES), "Exactly": ("(value)", OF_VALUES), "Kind": ("(kind)", OF_VALUES),
+                 "Between": ("(low, high)", OF_VALUES), "Begins": ("(text)", OF_VALUES),
+                 "Items": ("(*patterns)", OF_VALUES), "Both": ("(*patterns)", OF_VALUES),
+                 "Either": ("(*patterns)", OF_VALUES), "Not": ("(pattern)", OF_VALUES),
+                 "Calls": ("(path, *patterns, **named)", OF_CALLS | {"of": "(told)"}), "AnyCall": ("()", OF_CALLS)},
+    "plans": {"Expectation": ("(name, pattern, *, least=1, most=1, after=(), answer=None)", {"has_slack": property}),
+              "Plan": ("(*expectations)", {
+                  "names": "(self)", "is_free": property, "told": property, "__eq__": "(self, other)", "of": "(told)",
+                  "expectation": "(self, name)", "takers": "(self, call)", "classes": "(self)"})},
+    "rules": {"Opponent": ("(plan)", {"waiting": "(self)", "given": "(self, name)", "record": "(self)",
+                                      "takings": "(self)", "evidence": "(self)"})},
+    "watching": {"Watcher": ("(plan)", {"see": "(self, call)", "verdict": property, "record": "(self)",
+                                        "rest": "(self)", "twin": "(self)"})}}
 BUILTINS = """len range enumerate zip min max sum abs sorted reversed int str bool bytes list tuple dict set frozenset
     isinstance ord repr any all divmod pow getattr hasattr setattr iter next map type super property staticmethod
     classmethod Exception ValueError TypeError KeyError IndexError LookupError ZeroDivisionError ArithmeticError
@@ -30,6 +56,8 @@ BARRED = """register mro elements open input law version_info with_traceback add
     quit vars sys __name__ _wall _cold _tuplegetter _outside _record _written_out _member_names""".split()
 WORDS = re.compile(r"\b(typing|typing_extensions|enum|Enum|IntEnum|StrEnum|Flag|IntFlag|Generic|Protocol|ABC|ABCMeta|"
                    r"namedtuple|NamedTuple|TypedDict|TYPE_CHECKING|abstractmethod)\b|dataclass|overload|contextmanager")
+# An interactive session, such as doctest's, adds a builtin "_".
+TAKEN = set(dir(builtins)) - {"_"}
 OUTSIDE = (ast.AsyncFunctionDef, ast.AsyncFor, ast.AsyncWith, ast.Await, ast.Import)
 LISTS_ONLY = ("any", "all", "min", "max", "sum", "sorted")
 
@@ -62,27 +90,31 @@ def docstrings_of(tree):
 class Interface(unittest.TestCase):
 
     def test_functions_stand_in_their_file(self):
-        for name, arguments in FUNCTIONS.items():
-            function = vars(values)[name]
-            self.assertEqual(function.__module__, "calltakers.values", name)
-            self.assertEqual(str(inspect.signature(function)), arguments, name)
+        for file, functions in FUNCTIONS.items():
+            module = importlib.import_module(f"calltakers.{file}")
+            for name, arguments in functions.items():
+                function = vars(module)[name]
+                self.assertEqual(function.__module__, module.__name__, name)
+                self.assertEqual(str(inspect.signature(function)), arguments, name)
 
     def test_classes_stand_in_their_file(self):
-        for name, arguments in CLASSES.items():
-            made = vars(patterns)[name]
-            self.assertEqual(made.__module__, "calltakers.patterns", name)
-            self.assertEqual(str(inspect.signature(made)), arguments, name)
+        for file, classes in CLASSES.items():
+            module = importlib.import_module(f"calltakers.{file}")
+            for name, (arguments, _) in classes.items():
+                self.assertEqual(vars(module)[name].__module__, module.__name__, name)
+                self.assertEqual(str(inspect.signature(vars(module)[name])), arguments, name)
 
     def test_methods_stand_in_the_class_itself(self):
-        for name in list(CLASSES) + ["Pattern"]:
-            own = vars(vars(patterns)[name])
-            self.assertIn("told", own, name)
-            kind = "call" if name in ("Calls", "AnyCall") else "value"
-            self.assertEqual(str(inspect.signature(own["accepts"])), f"(self, {kind})", name)
-        for name in ("Pattern", "Calls", "AnyCall"):
-            self.assertIn("__eq__", vars(vars(patterns)[name]), name)
-        for name in ("Pattern", "Calls"):
-            self.assertEqual(str(inspect.signature(vars(patterns)[name].of)), "(told)", name)
+        for file, classes in CLASSES.items():
+            module = importlib.import_module(f"calltakers.{file}")
+            for name, (_, methods) in classes.items():
+                for method, arguments in methods.items():
+                    own = vars(vars(module)[name])[method]
+                    if arguments is property:
+                        self.assertIsInstance(own, property, (name, method))
+                    else:
+                        function = own.__func__ if isinstance(own, staticmethod) else own
+                        self.assertEqual(str(inspect.signature(function)), arguments, (name, method))
 
     def test_the_package_itself_defines_nothing(self):
         self.assertEqual(ast.parse((PACKAGE / "__init__.py").read_text()).body, [])
@@ -96,6 +128,8 @@ class Interface(unittest.TestCase):
 
     def test_attributes_are_set_when_the_object_is_created(self):
         self.assertEqual(vars(errors.BadCall("it")), {"path": "it"})
+        made = plans.Expectation("a", patterns.AnyCall())
+        self.assertLessEqual({"name", "pattern", "least", "most", "after", "answer"}, set(vars(made)))
 
     def test_the_readme_says_what_happens(self):
         failed, tried = doctest.testfile(str(TOP / "README.md"), module_relative=False)
@@ -155,12 +189,11 @@ class Language(unittest.TestCase):
                 elif isinstance(node, ast.Assign):
                     bound.append(node.targets[0].id)
             self.assertEqual(len(bound), len(set(bound)), path.name)
-            taken = set(dir(builtins))
-            self.assertEqual([name for name in bound if name in taken], [], path.name)
+            self.assertEqual([name for name in bound if name in TAKEN], [], path.name)
 
     def test_no_parameter_or_variable_hides_an_import_a_class_or_a_builtin(self):
         for path, tree in trees():
-            hidden = set(dir(builtins))
+            hidden = set(TAKEN)
             for node in tree.body:
                 if isinstance(node, ast.ImportFrom):
                     hidden |= {alias.name for alias in node.names}
@@ -184,7 +217,7 @@ class Language(unittest.TestCase):
     def test_builtins(self):
         for path, tree in trees():
             for node in ast.walk(tree):
-                if isinstance(node, ast.Name) and hasattr(builtins, node.id):
+                if isinstance(node, ast.Name) and node.id in TAKEN:
                     self.assertIn(node.id, BUILTINS, path.name)
 
     def test_statements_and_expressions(self):
