@@ -13,10 +13,10 @@ def assigned(plan, record):
     assignment = least_assignment(plan, options)
     if assignment is not None:
         return ("kept", assignment)
-    crowded = _smallest_crowded(plan, options)
+    crowded = _least_crowded(plan, options)
     if crowded is not None:
         return ("crowded", crowded)
-    return ("needy", tuple([plan.expectations[index].name for index in _smallest_needy(plan, options)]))
+    return ("needy", tuple([plan.expectations[index].name for index in _least_needy(plan, options)]))
 
 
 def is_crowded(plan, record, thing):
@@ -71,16 +71,15 @@ def _are_indexes(thing, count):
     return list(thing) == sorted(set(thing))
 
 
-def _smallest_crowded(plan, options):
-    """A crowded tuple of as few indexes as possible; None if no set of indexes is crowded."""
-    found = None
+def _least_crowded(plan, options):
+    """A crowded tuple of indexes of which no part is crowded; None if no set of indexes is."""
     for group in groups_of(len(plan.expectations)):
         within = [at for at, takers in enumerate(options) if all([taker in group for taker in takers])]
-        # Any set of one call more than there is room is crowded, so no part of the smallest of these is.
+        # One call more than there is room is crowded. A part of these could be so only by a smaller group.
         many = room_of(plan, group) + 1
-        if len(within) >= many and (found is None or many < len(found)):
-            found = tuple(within[:many])
-    return found
+        if len(within) >= many:
+            return tuple(within[:many])
+    return None
 
 
 def _is_needy(plan, options, group):
@@ -89,8 +88,8 @@ def _is_needy(plan, options, group):
     return sum([plan.expectations[index].least for index in group]) > len(accepted)
 
 
-def _smallest_needy(plan, options):
-    """A needy tuple of as few indexes as possible, so that no part of it is needy; None if there is none."""
+def _least_needy(plan, options):
+    """A needy tuple of indexes of expectations of which no part is needy; None if no set of them is."""
     for group in groups_of(len(plan.expectations)):
         if _is_needy(plan, options, group):
             return group

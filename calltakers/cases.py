@@ -96,7 +96,7 @@ def _longer(begun, begins, exact):
 
 
 def _plain_longer(begun, begins, exact):
-    """The same of the usual signs; None if these are taken behind the beginning, each by another one."""
+    """Such a string of the usual signs; None if there is none."""
     for sign in SIGNS:
         if begun + sign not in begins and begun + sign not in exact:
             return begun + sign

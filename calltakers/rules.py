@@ -56,6 +56,11 @@ def spared(plan):
 class Opponent:
     """Plays calls, each in answer to whom those before were given, such that no rule is good."""
 
+    # It plays a call that both of a conflict accept until one of the two takes it, and then what of the two only this
+    # one accepts, until that finds no room: it would find some if the other one had taken the call of both.
+    # In a slack the first one accepts nothing alone. But if it takes a call of both behind its least, the leasts lack
+    # more than if the other one had taken it. Then what they would lack is played, and some least is not reached.
+
     def __init__(self, plan):
         check_free(plan)
         found = _conflicts(plan)
@@ -65,12 +70,12 @@ class Opponent:
         self._plan = plan
         self._first = first
         self._other = other
-        # What only the other one accepts; what only the first one accepts, which a slack has not.
+        # What only the other one accepts, and what only the first one accepts, which a slack has not.
         self._for_other = calls[-1]
         self._for_first = calls[1] if word == "cross" else None
         self._calls = []
         self._takings = []
-        # How many calls the rule has given to each, and what other assignments could have led to.
+        # The state to which the rule has led, and all those to which it could have led.
         self._state = start_of(plan)
         self._states = [self._state]
         self._is_filling = False
@@ -120,7 +125,6 @@ class Opponent:
         """The next call comes, after one that was given to the expectation at this index."""
         had_least = self._state[index] >= self._plan.expectations[index].least
         self._state = raised(self._state, index)
-        # Where only calls of both were given, a first one with slack needed none behind its least, the other one did.
         self._is_filling = self._is_filling or self._for_first is None and index == self._first and had_least
         rest = shortest_rest(self._plan, self._states)
         if not rest and not has_leasts(self._plan, self._state):

@@ -166,6 +166,15 @@ class Examples(Cases):
             self.check(Begins(left), taken + [Begins(left + sign) for sign in usual], True)
         self.assertEqual(example(Kind("text"), outside=[Begins(sign) for sign in usual]), ("",))
 
+    def test_strings_where_all_signs_are_taken(self):
+        usual = [chr(code) for code in range(32, 127) if chr(code) != "%"] + ["\n"]
+        exact = [Exactly(sign) for sign in usual] + [Exactly("")]
+        self.check(Kind("text"), exact, True)
+        self.check(Kind("text"), exact + [Begins(sign) for sign in usual if sign != "q"], True)
+        self.check(Kind("text"), exact + [Exactly("a" + sign) for sign in usual] + [Begins("b")], True)
+        # There are other strings than those of the usual signs.
+        self.check(Kind("text"), exact + [Begins(sign) for sign in usual], True)
+
     def test_tuples_of_every_length(self):
         lengths = [Items(*[Anything()] * many) for many in range(5)]
         for many, pattern in enumerate(lengths):

@@ -143,7 +143,7 @@ class Trees(Play):
                         self.tree(plan)
                     elif not conflicts(plan):
                         self.assertRaises(NoConflict, Opponent, plan)
-        self.assertGreater(min(tried.values()), 20)
+        self.assertGreater(min(tried.values()), 8)
 
 
 class Rules(Play):

@@ -160,6 +160,8 @@ class Reached(unittest.TestCase):
             self.assertIs(is_refusal(one, record, found), False)
             record = [call("it", at % 6) for at in range(15)] + [call("zz", 1, 2)]
             self.assertEqual(ordered(free, record), ("lost", 15))
+        needy = Plan(*[Expectation(name, AnyCall(), least=3, most=3) for name in names])
+        self.assertEqual(ordered(needy, [call("it")] * 16), ("lost", 16))
 
 
 class Refusals(unittest.TestCase):
@@ -212,8 +214,8 @@ class Refusals(unittest.TestCase):
                         closed = all(one in less[step + 1] for step, made in enumerate(record) for state in less[step]
                                      for one in next_states(plan, state, made))
                         self.assertIs(is_refusal(plan, record, less), closed and not ending(plan, less[-1]))
-        self.assertGreater(bad, 30)
-        self.assertGreater(good, 30)
+        self.assertGreater(bad, 10)
+        self.assertGreater(good, 10)
 
     def test_the_state_of_noughts(self):
         record = [call("x")]
