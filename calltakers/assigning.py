@@ -2,8 +2,8 @@
 
 from itertools import combinations
 
-from calltakers.errors import NoIndex, NotKept
-from calltakers.plans import check_free, checked_record, least_assignment, room_of, taker_indexes
+from calltakers.errors import NotKept
+from calltakers.plans import check_free, check_index, checked_record, least_assignment, room_of, taker_indexes
 from calltakers.values import is_int
 
 
@@ -43,8 +43,7 @@ def may_take(plan, record, index):
     options = _options(plan, record)
     if least_assignment(plan, options) is None:
         raise NotKept("the record has no assignment")
-    if not is_int(index) or not 0 <= index < len(options):
-        raise NoIndex("this is not the index of a call")
+    check_index(index, len(options))
     found = {}
     for taker in options[index]:
         assignment = least_assignment(plan, options[:index] + [(taker,)] + options[index + 1:])

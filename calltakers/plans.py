@@ -1,7 +1,7 @@
 """Expectations, plans of them, the records of calls that plans keep, and the states that records lead to."""
 
 from calltakers.cases import classes, example
-from calltakers.errors import BadExpectation, BadPattern, BadPlan, BadRecord, NoName, NotFree
+from calltakers.errors import BadExpectation, BadPattern, BadPlan, BadRecord, NoIndex, NoName, NotFree
 from calltakers.patterns import Calls, is_call_pattern
 from calltakers.values import is_call, is_int, is_name, is_value, same
 
@@ -130,6 +130,12 @@ def checked_record(thing):
         if not is_call(item):
             raise BadRecord(index)
     return list(thing)
+
+
+def check_index(thing, count):
+    """NoIndex if a thing is not the index of one of so many calls."""
+    if not is_int(thing) or not 0 <= thing < count:
+        raise NoIndex("this is not the index of a call")
 
 
 def check_free(plan):

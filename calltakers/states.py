@@ -1,8 +1,30 @@
 """States of a plan: how many calls each expectation has taken, and the steps between them."""
 
 from calltakers.errors import NoState
-from calltakers.plans import checked_record, has_leasts, least_assignment, start_of, states_behind, taker_indexes
+from calltakers.plans import checked_record, has_leasts, is_ready, least_assignment, raised, start_of, states_behind
+from calltakers.plans import taker_indexes
 from calltakers.values import checked_call, is_int
+
+
+class Walk:
+    """The steps of a plan, for searches that come to the same states again and again: each is looked at once."""
+
+    def __init__(self, plan):
+        self._plan = plan
+        self._moves = {}
+
+    def moves(self, state):
+        """For each expectation the state in which it has taken one call more; None where it may not take one."""
+        if state not in self._moves:
+            places = range(len(state))
+            ready = [is_ready(self._plan, state, index) for index in places]
+            self._moves[state] = tuple([raised(state, index) if ready[index] else None for index in places])
+        return self._moves[state]
+
+    def led(self, states, takers):
+        """The ascending list of the states to which steps lead from these, by a call that these expectations accept."""
+        rows = [self.moves(state) for state in states]
+        return sorted({row[index] for row in rows for index in takers if row[index] is not None})
 
 
 def start(plan):

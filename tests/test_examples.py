@@ -38,6 +38,23 @@ EXAMPLES = {
 >>> (watcher.verdict, watcher.see(call("db.open", "x")), watcher.see(call("db.read")), watcher.see(call("db.open", "x")))
 ('open', 'kept', 'kept', 'lost')
 """,
+    "[17]": """
+>>> from calltakers.certainty import answers, certain_at
+>>> from calltakers.patterns import AnyCall, Calls
+>>> from calltakers.plans import Expectation, Plan
+>>> from calltakers.values import call
+>>> plan = Plan(Expectation("any", AnyCall(), answer=1), Expectation("bare", Calls("it"), answer=2))
+>>> (answers(plan, [call("it")]), certain_at(plan, [call("it"), call("other")]))
+([[1, 2]], [2, 2])
+""",
+    "[20]": """
+>>> from calltakers.patterns import Anything, Calls
+>>> from calltakers.standins import Fault, Standin
+>>> db = Standin("db")
+>>> db.will(Calls("db.open", Anything()), 7, Fault("busy"))
+>>> (db.child("open").receive("x"), db.child("close").receive(), db.log())
+(7, None, [(('db.open', ('x',), ()), ('gave', 7)), (('db.close', (), ()), ('gave', None))])
+""",
 }
 
 

@@ -9,7 +9,7 @@ import pathlib
 import re
 import unittest
 
-from calltakers import errors, patterns, plans
+from calltakers import errors, hands, patterns, plans, standins
 
 TOP = pathlib.Path(__file__).resolve().parent.parent
 PACKAGE = TOP / "calltakers"
@@ -25,7 +25,13 @@ FUNCTIONS = {
     "firstfit": {"first_fit": "(plan, record)", "wrong_pair": "(plan)", "trap": "(plan)", "righted": "(plan)"},
     "rules": {"conflict": "(plan)", "narrowest": "(plan, record)", "spared": "(plan)"},
     "states": {"start": "(plan)", "steps": "(plan, state, call)", "ends": "(plan, state)",
-               "reached": "(plan, record)", "ordered": "(plan, record)", "is_refusal": "(plan, record, thing)"}}
+               "reached": "(plan, record)", "ordered": "(plan, record)", "is_refusal": "(plan, record, thing)"},
+    "certainty": {"could_take": "(plan, record, index)", "answers": "(plan, record)", "certain_at": "(plan, record)"},
+    "alike": {"contained": "(plan, other)", "is_containment": "(plan, other, thing)", "needless": "(plan)"},
+    "hands": {"merged": "(hands, order)", "orders": "(hands, *, links=())",
+              "some_kept": "(plan, hands, *, links=())", "is_none": "(plan, hands, thing, *, links=())",
+              "all_kept": "(plan, hands, *, links=())", "is_all": "(plan, hands, thing, *, links=())"},
+    "standins": {"outcomes": "(rules, record)"}}
 OF_VALUES = {"told": property, "accepts": "(self, value)"}
 OF_CALLS = {"told": property, "accepts": "(self, call)", "__eq__": "(self, other)"}
 # For each class how it is made, and what stands in its own body.
@@ -44,7 +50,12 @@ CLASSES = {
     "rules": {"Opponent": ("(plan)", {"waiting": "(self)", "given": "(self, name)", "record": "(self)",
                                       "takings": "(self)", "evidence": "(self)"})},
     "watching": {"Watcher": ("(plan)", {"see": "(self, call)", "verdict": property, "record": "(self)",
-                                        "rest": "(self)", "twin": "(self)"})}}
+                                        "rest": "(self)", "twin": "(self)"})},
+    "standins": {"Standin": ("(name='it')", {
+                     "child": "(self, name)", "receive": "(self, *arguments, **named)",
+                     "will": "(self, pattern, *results, again=False)", "log": "(self)", "record": "(self)",
+                     "below": "(self)", "reset": "(self)"}),
+                 "Fault": ("(word)", {"__eq__": "(self, other)"})}}
 BUILTINS = """len range enumerate zip min max sum abs sorted reversed int str bool bytes list tuple dict set frozenset
     isinstance ord repr any all divmod pow getattr hasattr setattr iter next map type super property staticmethod
     classmethod Exception ValueError TypeError KeyError IndexError LookupError ZeroDivisionError ArithmeticError
@@ -130,6 +141,11 @@ class Interface(unittest.TestCase):
         self.assertEqual(vars(errors.BadCall("it")), {"path": "it"})
         made = plans.Expectation("a", patterns.AnyCall())
         self.assertLessEqual({"name", "pattern", "least", "most", "after", "answer"}, set(vars(made)))
+        self.assertIn("path", vars(standins.Standin()))
+        self.assertIn("word", vars(standins.Fault("a")))
+
+    def test_orders_is_a_generator(self):
+        self.assertTrue(inspect.isgeneratorfunction(hands.orders))
 
     def test_the_readme_says_what_happens(self):
         failed, tried = doctest.testfile(str(TOP / "README.md"), module_relative=False)
