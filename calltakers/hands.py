@@ -54,11 +54,11 @@ class Table:
         self.plan = plan
         self.deal = Deal(hands, links)
         self._walk = Walk(plan)
-        self._takers = [[taker_indexes(plan, made) for made in calls] for calls in self.deal.calls]
+        self._accepting = [[taker_indexes(plan, made) for made in calls] for calls in self.deal.calls]
 
-    def led(self, cut, states, hand):
+    def next_states(self, cut, states, hand):
         """The ascending list of the states to which the next call of a hand leads from these."""
-        return self._walk.led(states, self._takers[hand][cut[hand]])
+        return self._walk.led(states, self._accepting[hand][cut[hand]])
 
     def has_end(self, states):
         """Whether one of these states ends."""
@@ -112,7 +112,7 @@ def is_none(plan, hands, thing, *, links=()):
         return False
     for cut in deal.cuts:
         for hand, behind in deal.coming(cut):
-            if not all([state in found[behind] for state in table.led(cut, found[cut], hand)]):
+            if not all([state in found[behind] for state in table.next_states(cut, found[cut], hand)]):
                 return False
     return True
 
@@ -141,7 +141,7 @@ def is_all(plan, hands, thing, *, links=()):
         if cut == deal.last and not table.has_end(states):
             return False
         for hand, behind in deal.coming(cut):
-            if (behind, tuple(table.led(cut, states, hand))) not in pairs:
+            if (behind, tuple(table.next_states(cut, states, hand))) not in pairs:
                 return False
     return True
 
@@ -196,8 +196,9 @@ def _all_states(table):
     # Ascending, so that each cut comes behind all those that lead to it.
     for cut in table.deal.cuts:
         for hand, behind in table.deal.coming(cut):
-            states = table.led(cut, found[cut], hand)
-            found[behind].update({state: True for state in states})
+            states = table.next_states(cut, found[cut], hand)
+            for state in states:
+                found[behind][state] = True
     return {cut: sorted(found[cut]) for cut in found}
 
 
@@ -214,7 +215,7 @@ def _good_states(table, states):
 
 def _leads(table, cut, state, ways):
     """Whether the next call of some hand leads from a state to one of those beside the hand."""
-    return any([new in goal for hand, goal in ways for new in table.led(cut, [state], hand)])
+    return any([new in goal for hand, goal in ways for new in table.next_states(cut, [state], hand)])
 
 
 def _least_order(table, good):
@@ -223,7 +224,7 @@ def _least_order(table, good):
     states = [start_of(table.plan)]
     order = ()
     while cut != table.deal.last:
-        ways = [(hand, behind, table.led(cut, states, hand)) for hand, behind in table.deal.coming(cut)]
+        ways = [(hand, behind, table.next_states(cut, states, hand)) for hand, behind in table.deal.coming(cut)]
         leading = [(hand, behind, led) for hand, behind, led in ways if any([state in good[behind] for state in led])]
         hand, cut, led = leading[0]
         states = [state for state in led if state in good[cut]]
@@ -240,7 +241,7 @@ def _least_unkept(table, pair, seen):
     if cut == table.deal.last:
         return None if table.has_end(states) else ()
     for hand, behind in table.deal.coming(cut):
-        new = (behind, tuple(table.led(cut, states, hand)))
+        new = (behind, tuple(table.next_states(cut, states, hand)))
         if new not in seen:
             seen[new] = True
             rest = _least_unkept(table, new, seen)

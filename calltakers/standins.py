@@ -90,7 +90,7 @@ class Standin:
 
     def receive(self, *arguments, **named):
         """Records a call of this stand-in; gives the result of the rule that takes it, or None without one."""
-        word, result = self._tree.outcome_of(self._call(arguments, named))
+        word, result = self._tree.outcome_of(self._made_call(arguments, named))
         if word == "raised":
             raise Faulted(result)
         return result
@@ -125,7 +125,7 @@ class Standin:
         """A new stand-in of the same class."""
         return Standin(name)
 
-    def _call(self, arguments, named):
+    def _made_call(self, arguments, named):
         """The call of this stand-in with these arguments."""
         # Of call itself, path is a parameter: it cannot be passed by this name.
         if "path" in named:

@@ -55,6 +55,28 @@ EXAMPLES = {
 >>> (db.child("open").receive("x"), db.child("close").receive(), db.log())
 (7, None, [(('db.open', ('x',), ()), ('gave', 7)), (('db.close', (), ()), ('gave', None))])
 """,
+    "[21]": """
+>>> from calltakers.patterns import Between, Calls
+>>> from calltakers.plans import Expectation, Plan
+>>> from calltakers.strict import Strict
+>>> low, high = Expectation("low", Calls("it", Between(0, 5))), Expectation("high", Calls("it", Between(3, 9)), answer="up")
+>>> it = Strict(Plan(low, high))
+>>> (it.receive(8), it.verdict, it.receive(4), it.verdict)
+('up', 'open', None, 'kept')
+""",
+    "[22]": """
+>>> from calltakers.places import Places
+>>> places = Places([("mode", 1)])
+>>> two, gone = places.replaced("mode", 2), places.replaced("mode")
+>>> (two.begin(), gone.begin(), places.has("mode"), gone.end(), places.read("mode"), two.end(), places.read("mode"))
+(None, None, False, None, 2, None, 1)
+""",
+    "[24]": """
+>>> from calltakers.console import Console
+>>> console = Console()
+>>> (console.reply("plan low 1..1 it(0..5)"), console.reply("call it(4)"), console.reply("call it(4)"), console.reply("undo"), console.reply("who 0"))
+('ok', 'kept', 'lost', 'ok', 'low')
+""",
 }
 
 

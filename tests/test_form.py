@@ -9,7 +9,7 @@ import pathlib
 import re
 import unittest
 
-from calltakers import errors, hands, patterns, plans, standins
+from calltakers import errors, hands, patterns, plans, standins, strict
 
 TOP = pathlib.Path(__file__).resolve().parent.parent
 PACKAGE = TOP / "calltakers"
@@ -31,7 +31,10 @@ FUNCTIONS = {
     "hands": {"merged": "(hands, order)", "orders": "(hands, *, links=())",
               "some_kept": "(plan, hands, *, links=())", "is_none": "(plan, hands, thing, *, links=())",
               "all_kept": "(plan, hands, *, links=())", "is_all": "(plan, hands, thing, *, links=())"},
-    "standins": {"outcomes": "(rules, record)"}}
+    "standins": {"outcomes": "(rules, record)"},
+    "texts": {"value_text": "(value)", "call_text": "(call)", "pattern_text": "(pattern)", "plan_text": "(plan)",
+              "read_value": "(text)", "read_call": "(text)", "read_pattern": "(text)", "read_calls": "(text)",
+              "read_plan": "(text)"}}
 OF_VALUES = {"told": property, "accepts": "(self, value)"}
 OF_CALLS = {"told": property, "accepts": "(self, call)", "__eq__": "(self, other)"}
 # For each class how it is made, and what stands in its own body.
@@ -55,7 +58,16 @@ CLASSES = {
                      "child": "(self, name)", "receive": "(self, *arguments, **named)",
                      "will": "(self, pattern, *results, again=False)", "log": "(self)", "record": "(self)",
                      "below": "(self)", "reset": "(self)"}),
-                 "Fault": ("(word)", {"__eq__": "(self, other)"})}}
+                 "Fault": ("(word)", {"__eq__": "(self, other)"})},
+    "strict": {"Strict": ("(plan, *, name='it')", {
+        "receive": "(self, *arguments, **named)", "will": "(self, pattern, *results, again=False)", "reset": "(self)",
+        "done": "(self)", "verdict": property, "checked": "(self, work)"})},
+    "places": {"Places": ("(contents=())", {
+                   "read": "(self, name)", "has": "(self, name)", "names": "(self)", "write": "(self, name, value)",
+                   "remove": "(self, name)", "replaced": "(self, name, *values)",
+                   "run": "(self, work, *replacements)"}),
+               "Replacement": ("(places, name, shown)", {"begin": "(self)", "end": "(self)", "in_force": property})},
+    "console": {"Console": ("()", {"reply": "(self, line)"})}}
 BUILTINS = """len range enumerate zip min max sum abs sorted reversed int str bool bytes list tuple dict set frozenset
     isinstance ord repr any all divmod pow getattr hasattr setattr iter next map type super property staticmethod
     classmethod Exception ValueError TypeError KeyError IndexError LookupError ZeroDivisionError ArithmeticError
@@ -143,6 +155,10 @@ class Interface(unittest.TestCase):
         self.assertLessEqual({"name", "pattern", "least", "most", "after", "answer"}, set(vars(made)))
         self.assertIn("path", vars(standins.Standin()))
         self.assertIn("word", vars(standins.Fault("a")))
+        self.assertIn("path", vars(strict.Strict(plans.Plan(made))))
+
+    def test_all_files_are_there(self):
+        self.assertEqual({path.stem for path in PACKAGE.glob("*.py")}, set(ORDER) | {"__init__"})
 
     def test_orders_is_a_generator(self):
         self.assertTrue(inspect.isgeneratorfunction(hands.orders))

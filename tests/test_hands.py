@@ -18,8 +18,8 @@ from test_alike import next_states
 A, B, C = call("a"), call("b"), call("it", 1)
 PLAN = Plan(Expectation("a", Calls("a")), Expectation("b", Calls("b"), after=["a"]))
 NO_LISTS = [None, 1, True, "", "ab", {}, {0: [A]}, {1}, Stranger(), PLAN, b""]
-NO_HANDS = (NO_LISTS + [[], (), [None], [A], A, [[A], None], [[A], "a"], [[A], {}], [{0: A}], ["", ""], [[], [], [], []],
-                        [[A], [A], [A], [A]], [[[A]]], [[A], [[]]], [[A, None]], [[A], [B, 3]]]
+NO_HANDS = (NO_LISTS + [[], (), [None], [A], A, [[A], None], [[A], "a"], [[A], {}], [{0: A}], ["", ""],
+                        [[], [], [], []], [[A], [A], [A], [A]], [[[A]]], [[A], [[]]], [[A, None]], [[A], [B, 3]]]
             + [[[A], [thing]] for thing in NO_CALLS])
 # For hands of two and of one calls.
 NO_LINKS = (NO_LISTS[:2] + NO_LISTS[4:5] + NO_LISTS[6:10] + [
@@ -27,8 +27,8 @@ NO_LINKS = (NO_LISTS[:2] + NO_LISTS[4:5] + NO_LISTS[6:10] + [
     [((0, 0), (1,))], [((0,), (1, 0))], [((0, 0), (1, 0, 0))], [((0, 0), None)], [(None, (1, 0))], [((0, 0), "10")],
     [((0, 2), (1, 0))], [((0, 0), (1, 1))], [((2, 0), (1, 0))], [((0, 0), (2, 0))], [((-1, 0), (0, 0))],
     [((0, -1), (1, 0))], [((0, 0), (1, -1))], [((False, 0), (1, 0))], [((0, False), (1, 0))], [((0, 0), (True, 0))],
-    [((0, 0), (1, False))], [((0, 0.0), (1, 0))], [((0, "0"), (1, 0))], [((0, 0), (1, 0)), None], [((0, 0), (1, 0)), ()],
-    [((0, 10 ** 39), (1, 0))], ((0, 0), (1, 0)), [(0, 0), (1, 0)]])
+    [((0, 0), (1, False))], [((0, 0.0), (1, 0))], [((0, "0"), (1, 0))], [((0, 0), (1, 0)), None],
+    [((0, 0), (1, 0)), ()], [((0, 10 ** 39), (1, 0))], ((0, 0), (1, 0)), [(0, 0), (1, 0)]])
 # Links that no order of such hands obeys: a circle, a place itself, against a hand, and by way of a hand.
 TANGLED = [[((0, 0), (0, 0))], [((1, 0), (1, 0))], [((0, 1), (0, 0))], [((0, 0), (1, 0)), ((1, 0), (0, 0))],
            [((0, 1), (1, 0)), ((1, 0), (0, 0))], [((0, 1), (1, 0)), ((1, 0), (0, 1))]]
@@ -77,7 +77,8 @@ def hands_by(random, many):
         sizes[random.randrange(len(sizes))] += 1
     hands = [[random.choice(CALLS) for _ in range(size)] for size in sizes]
     spots = [(hand, index) for hand, calls in enumerate(hands) for index in range(len(calls))]
-    links = [(random.choice(spots), random.choice(spots)) for _ in range(random.choice([0, 0, 1, 2, 3]))] if spots else []
+    many = random.choice([0, 0, 1, 2, 3]) if spots else 0
+    links = [(random.choice(spots), random.choice(spots)) for _ in range(many)]
     links += random.sample(links, random.randint(0, len(links)))
     return hands, links
 
@@ -122,7 +123,8 @@ class Orders(unittest.TestCase):
         self.assertEqual(next(many), (0,) * 12 + (1,) * 12 + (2,) * 12)
 
     def test_errors_when_the_first_is_requested(self):
-        for hands, links in [(thing, ()) for thing in NO_HANDS] + [([[A, B], [C]], some) for some in NO_LINKS + TANGLED]:
+        linked = [([[A, B], [C]], some) for some in NO_LINKS + TANGLED]
+        for hands, links in [(thing, ()) for thing in NO_HANDS] + linked:
             with self.assertRaises(BadHands, msg=(hands, links)):
                 next(orders(hands, links=links))
 
@@ -471,8 +473,8 @@ class IsAll(Shown):
         self.assertIs(is_all(plan, [[A]], good), True)
         for pair in [((1,), (1,)), ((1,), [[1]]), ((True,), [(1,)]), ((1,), [(True,)]), ([1], [(1,)]), [(1,), [(1,)]],
                      ((1,),), ((1,), [(1,)], 0), ((1, 0), [(1,)]), ((), [(1,)]), (1, [(1,)]), ((2,), [(1,)]),
-                     ((-1,), [(0,)]), ((1,), [(1,), None]), ((1,), [(1,), (2,)]), ((1,), [(1,), (1, 0)]), None, (), "ab",
-                     ((1,), {(1,): 1}), ((1,), None), ((1,), ""), ((1,), []), ((1.0,), [(1,)]), ((1,), [(1.0,)])]:
+                     ((-1,), [(0,)]), ((1,), [(1,), None]), ((1,), [(1,), (2,)]), ((1,), [(1,), (1, 0)]), None, (),
+                     "ab", ((1,), {(1,): 1}), ((1,), None), ((1,), ""), ((1,), []), ((1.0,), [(1,)]), ((1,), [(1.0,)])]:
             for thing in (good[:1] + [pair], good + [pair], [pair] + good):
                 self.assertIs(is_all(plan, [[A]], thing), False, pair)
         for thing in [dict(good[:1]), {}, "all", ("all", good), [good], [[]], good[:1], good[1:]]:
