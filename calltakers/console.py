@@ -88,8 +88,7 @@ class Console:
     def _trap(self):
         """The calls of a trap."""
         self._check_plan()
-        record = trap(self._plan)
-        return NOTHING if record is None else _calls_text(record)
+        return _calls_text(trap(self._plan))
 
     def _conflict(self):
         """The word of a conflict, and the two names."""
@@ -123,5 +122,5 @@ def _index(text):
 
 
 def _calls_text(calls):
-    """The texts of calls, one behind the other."""
+    """The texts of calls, one behind the other; of none, and of None, the same word."""
     return "; ".join([call_text(made) for made in calls]) if calls else NOTHING

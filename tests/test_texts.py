@@ -202,6 +202,10 @@ class Values(Case):
         self.refused(BadText, read_value, "(" + deep + ")", row=0)
         wide = "(" * 19 + " ".join(["()"] * 50) + ")" * 19
         self.assertEqual(value_text(read_value(wide)), wide)
+        for closed in ("() ", "((((())))) ", '"))" ', '() ")))" '):
+            after = "(" * 5 + closed * 30 + "(" * 15 + ")" * 20
+            self.assertEqual(value_text(read_value(after)), after)
+            self.refused(BadText, read_value, "(" * 5 + closed * 30 + "(" * 16 + ")" * 21, row=0)
         quoted = '("' + "(" * 100 + '" ' + '"\\"((\\\\" ' * 5 + "1)"
         self.assertEqual(value_text(read_value(quoted)), quoted)
         self.assertEqual(len(read_value('"' + "(" * 10000 + '"')), 10000)
